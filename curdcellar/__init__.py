@@ -1,0 +1,1 @@
+"""Curdcellar: the book and the plans of a cheese cellar."""
