@@ -39,3 +39,17 @@ def fewest(gaps, since, days, within):
         ended.extend([told for last, told in reached.items() if lasts(gap, last, days)])
         reached = after_gap(reached, gap, days, within)
     return min(ended, default=None)
+
+
+def keeping(gaps, since, days):
+    ended = []
+    begun = [[]]
+    for gap in gaps:
+        longer = []
+        for done in begun:
+            last = done[-1] if done else -since
+            if lasts(gap, last, days):
+                ended.append(done)
+            longer.extend([done + [day] for day in range(days) if fits(gap, day - last)])
+        begun = longer
+    return ended

@@ -1,4 +1,7 @@
-"""Rules of the language that a walk over the source can see (L1, L2, L5 to L8, L10, L12, L14, L17, L20, L25, L27)."""
+"""Rules of the language that a walk over the source can see.
+
+They are L1, L2, L5 to L8, L10, L12, L14 to L18, L20, L22 and L24 to L27, as far as such a walk can see them.
+"""
 
 import ast
 import builtins
@@ -36,6 +39,15 @@ methodcaller os quit setattr super vars sys
 BANNED_WORDS = re.compile(
     r"\b(type|typing|typing_extensions|enum|Enum|IntEnum|StrEnum|Flag|IntFlag|Generic|Protocol|ABC|ABCMeta|namedtuple"
     r"|NamedTuple|TypedDict|TYPE_CHECKING|abstractmethod)\b|dataclass|overload|contextmanager")
+
+UNUSED_VALUES = set("""
+items keys values pop update append clear extend insert remove reverse setdefault sort args encode format
+""".split())
+FREE_VALUES = ("count", "index", "title", "find", "get", "join", "lower", "upper", "split", "strip", "copy", "add")
+OWN_KINDS = (str, int, list, dict, set, bytes)
+
+KEYWORDS = {"sorted": ("key", "reverse"), "min": ("key", "default"), "max": ("key", "default"), "sum": ("start",),
+            "enumerate": ("start",), "zip": ("strict",)}
 
 DUNDERS = ("__init__", "__eq__", "__repr__", "__str__", "__len__", "__all__", "__version__")
 
@@ -99,6 +111,50 @@ def bound_names(tree):
             yield node.name
 
 
+def taken_names(tree):
+    """Names of a file that no parameter and no local may have: its classes and its imports."""
+    for node in tree.body:
+        if isinstance(node, ast.ClassDef):
+            yield node.name
+        elif isinstance(node, ast.ImportFrom):
+            for alias in node.names:
+                yield alias.asname or alias.name
+
+
+def local_names(tree):
+    for node in ast.walk(tree):
+        if isinstance(node, ast.arg):
+            yield node.arg
+        elif isinstance(node, ast.Name) and isinstance(node.ctx, ast.Store):
+            yield node.id
+
+
+def value_faults(name):
+    if name in UNUSED_VALUES or name not in FREE_VALUES and any(hasattr(kind, name) for kind in OWN_KINDS):
+        yield f"L26 value {name}"
+
+
+def call_faults(node):
+    if isinstance(node.func, ast.Name) and node.func.id in OWN_NAMES:
+        for keyword in node.keywords:
+            if keyword.arg not in KEYWORDS.get(node.func.id, ()):
+                yield f"L22 keyword {keyword.arg}"
+
+
+def set_calls(tree):
+    """Calls of set, and those of them that stand where a set may stand."""
+    calls, right = set(), set()
+    for node in ast.walk(tree):
+        if isinstance(node, ast.Call) and isinstance(node.func, ast.Name):
+            if node.func.id == "set":
+                calls.add(node)
+            elif node.func.id in ("sorted", "len"):
+                right.update(ast.walk(node.args[0]) if isinstance(node.args[0], ast.BinOp) else node.args[:1])
+        elif isinstance(node, ast.Compare):
+            right.update(node.comparators + [node.left])
+    return calls - right
+
+
 def constant_faults(node):
     if not (node.value is None or isinstance(node.value, (bool, int, str))):
         yield f"L7 value {node.value!r}"
@@ -120,6 +176,14 @@ def node_faults(node, tree, bound):
         yield f"L8 name {node.id}"
     if isinstance(node, ast.Attribute):
         yield from name_faults(node.attr)
+        if isinstance(node.ctx, ast.Store):
+            yield from value_faults(node.attr)
+    if isinstance(node, ast.FormattedValue) and not isinstance(node.value, ast.Name):
+        yield "L7 more than a name in an f-string"
+    if isinstance(node, ast.ListComp) and (len(node.generators) > 1 or len(node.generators[0].ifs) > 1):
+        yield "L7 more than one for or if in a list comprehension"
+    if isinstance(node, ast.Call):
+        yield from call_faults(node)
     if isinstance(node, ast.Assign) and len(node.targets) > 1:
         yield "L6 more targets than one"
     if isinstance(node, (ast.For, ast.While)) and node.orelse or isinstance(node, ast.Try) and node.finalbody:
@@ -133,6 +197,8 @@ def language_faults(source, own_methods=()):
     tree = ast.parse(source)
     bound = set(bound_names(tree))
     found = list(text_faults(source))
+    found.extend(f"L15 name {name}" for name in set(local_names(tree)) & set(taken_names(tree)))
+    found.extend("L24 set" for node in set_calls(tree))
     for name in bound:
         found.extend(name_faults(name))
         if name in dir(builtins):
@@ -145,13 +211,27 @@ def language_faults(source, own_methods=()):
     return found
 
 
-def package_methods():
+def package_trees():
     for path in PACKAGE.rglob("*.py"):
-        for node in ast.walk(ast.parse(path.read_text("utf-8"))):
-            if isinstance(node, ast.ClassDef):
-                for part in node.body:
-                    if isinstance(part, ast.FunctionDef):
-                        yield part.name
+        yield ast.parse(path.read_text("utf-8"))
+
+
+def methods_of(tree):
+    for node in ast.walk(tree):
+        if isinstance(node, ast.ClassDef):
+            for part in node.body:
+                if isinstance(part, ast.FunctionDef):
+                    yield part.name
+
+
+def values_of(tree):
+    for node in ast.walk(tree):
+        if isinstance(node, ast.Attribute) and isinstance(node.ctx, ast.Store):
+            yield node.attr
+
+
+def drawn_files(tree):
+    return {node.module for node in tree.body if isinstance(node, ast.ImportFrom)}
 
 
 class Language(unittest.TestCase):
@@ -163,10 +243,27 @@ class Language(unittest.TestCase):
                     self.assertRegex(path.name, r"\A([a-z][a-z0-9_]*|__init__)\.py\Z")
 
     def test_sources(self):
-        own_methods = list(package_methods())
+        own_methods = [name for tree in package_trees() for name in methods_of(tree)]
         for path in sorted(PACKAGE.glob("*.py")):
             with self.subTest(path=path.name):
                 self.assertEqual(language_faults(path.read_text("utf-8"), own_methods), [])
+
+    def test_no_name_is_a_method_and_a_value(self):
+        methods = {name for tree in package_trees() for name in methods_of(tree)}
+        held = {name for tree in package_trees() for name in values_of(tree)}
+        self.assertEqual(methods & held, set())
+
+    def test_no_file_draws_from_itself_in_some_steps(self):
+        drawn = {"curdcellar." + path.stem: drawn_files(ast.parse(path.read_text("utf-8")))
+                 for path in PACKAGE.glob("*.py")}
+        for name in drawn:
+            reached, waiting = set(), list(drawn[name])
+            while waiting:
+                other = waiting.pop()
+                if other not in reached:
+                    reached.add(other)
+                    waiting.extend(drawn.get(other, ()))
+            self.assertNotIn(name, reached)
 
     def test_faults_are_seen(self):
         for source in (
@@ -177,7 +274,11 @@ class Language(unittest.TestCase):
             "def f():\n    return print(1)\n", "def f(min):\n    return min\n", "def _f():\n    return 1\n",
             "def f(a, b):\n    return a is b\n", "def f(a):\n    a.sort()\n", "def f(a):\n    return a.format(1)\n",
             "def f(a):\n    b = c = a\n    return b\n", "# a type\n", "# " + "x" * 120 + "\n", "# \u00e9\n", "X = '%'\n",
-            "class C:\n    X = 1\n", "def f():\n" + "    pass\n" * 40, "# x\n" * 401, "#\tx\n",
+            "class C:\n    X = 1\n", "class C:\n    'text'\n", "def f(a):\n    a.sort = 1\n", "def f(a):\n    a.hex = 1\n",
+            "def f(a):\n    return f'{a.b}'\n", "X = [a for a in [1] for b in [2]]\n",
+            "from curdcellar.gaps import kept\n\n\ndef f(kept):\n    return kept\n",
+            "def f(a):\n    b = set(a)\n    return b\n", "def f(a):\n    return int(a, base=3)\n",
+            "def f():\n" + "    pass\n" * 40, "# x\n" * 401, "#\tx\n",
         ):
             with self.subTest(source=source[:60]):
                 self.assertNotEqual(language_faults(source), [])
