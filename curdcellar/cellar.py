@@ -3,7 +3,7 @@
 from curdcellar.errors import BadName, BadNumber, Gone, Mouldy, Taken, TooMuch, Unknown, WrongRoom
 from curdcellar.plans import Task
 from curdcellar.things import Batch, Room, Shelf, Sort, Thing, Washer, Wedge, Wheel
-from curdcellar.things import job_of, night_loss, stands_at
+from curdcellar.things import job_of, night_loss, stands_at, wedge_names
 from curdcellar.words import is_name
 
 MOST_DAMP = 100
@@ -183,8 +183,8 @@ class Cellar:
         check_here(whole)
         check_enough(sum(parts), whole.grams)
         whole.gone = True
-        for number in range(1, len(parts) + 1):
-            self.hold(Wedge(f"{wheel}/{number}"))
+        for wedge in wedge_names(wheel, len(parts)):
+            self.hold(Wedge(wedge))
         self.entries.append((self.today, "cut", wheel, tuple(parts), whole.grams - sum(parts)))
 
     def sell(self, wedge):

@@ -65,6 +65,10 @@ class Wedge(Thing):
         self.gone = False
 
 
+def wedge_names(wheel, many):
+    return [f"{wheel}/{number}" for number in range(1, many + 1)]
+
+
 def stands_at(shelf, recipe, place):
     # The slice is empty where the route has no such place.
     return shelf.room.name in recipe.rooms[place:place + 1]
